@@ -1,0 +1,1 @@
+"""Rooms, and who watches them."""

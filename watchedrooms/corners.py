@@ -1,0 +1,94 @@
+"""Rooms, told by their corners in the order round."""
+
+FEWEST_CORNERS = 3
+MOST_CORNERS = 24
+LEAST_NUMBER = -10000
+GREATEST_NUMBER = 10000
+NOT_SO = -2
+
+
+def is_so(n, xy):
+    """Whether n and each number of xy are in their ranges."""
+    if n < FEWEST_CORNERS or n > MOST_CORNERS:
+        return False
+    for number in xy:
+        if number < LEAST_NUMBER or number > GREATEST_NUMBER:
+            return False
+    return True
+
+
+def corner_points(n, xy):
+    """The corners as pairs of x and y."""
+    return [(xy[2 * i], xy[2 * i + 1]) for i in range(n)]
+
+
+def turn(a, b, c):
+    """Above 0 if a, b, c turn left, below 0 if they turn right, 0 if they are on one line."""
+    return (b[0] - a[0]) * (c[1] - a[1]) - (b[1] - a[1]) * (c[0] - a[0])
+
+
+def on_one_side(a, b, c, d):
+    """Whether c and d lie off the line through a and b, both on the same side of it."""
+    return turn(a, b, c) * turn(a, b, d) > 0
+
+
+def spans_meet(a, b, c, d):
+    """Whether the numbers from a to b and those from c to d, in either order, have one in common."""
+    return max(min(a, b), min(c, d)) <= min(max(a, b), max(c, d))
+
+
+def walls_meet(a, b, c, d):
+    """Whether the wall from a to b and the wall from c to d have a point in common."""
+    if on_one_side(a, b, c, d) or on_one_side(c, d, a, b):
+        return False
+    # Two walls on one line come this far even when they lie apart on it; their spans tell.
+    return spans_meet(a[0], b[0], c[0], d[0]) and spans_meet(a[1], b[1], c[1], d[1])
+
+
+def has_three_on_a_line(points):
+    """Whether three corners in a row, also across the last and the first, are on one line."""
+    n = len(points)
+    for i in range(n):
+        if turn(points[i], points[(i + 1) % n], points[(i + 2) % n]) == 0:
+            return True
+    return False
+
+
+def has_far_walls_that_meet(points):
+    """Whether two walls that aren't neighbours have a point in common."""
+    n = len(points)
+    for i in range(n):
+        for j in range(i + 2, n):
+            # The first wall and the last are neighbours too.
+            far = j - i < n - 1
+            if far and walls_meet(points[i], points[i + 1], points[j], points[(j + 1) % n]):
+                return True
+    return False
+
+
+def twice_area(points):
+    """Twice the area within walls that don't meet: above 0 if it's on the left, below 0 if on the right."""
+    n = len(points)
+    total = 0
+    for i in range(n):
+        a = points[i]
+        b = points[(i + 1) % n]
+        total = total + a[0] * b[1] - b[0] * a[1]
+    return total
+
+
+def is_room(points):
+    """Whether the walls that join the points in order make a room."""
+    # Neighbours share more than their corner only if they are on one line, so far walls are left to ask.
+    if has_three_on_a_line(points) or has_far_walls_that_meet(points):
+        return False
+    return twice_area(points) > 0
+
+
+def ga_room(n, xy):
+    """[1] if the corners make a room, [0] if they don't, [-2] if n or a number isn't so."""
+    if not is_so(n, xy):
+        return [NOT_SO]
+    if is_room(corner_points(n, xy)):
+        return [1]
+    return [0]
