@@ -1,4 +1,4 @@
-"""What a room is, worked out another way than the package does it, to hold its answers against.
+"""What a room is and holds, worked out another way than the package does it, to hold its answers against.
 
 Points in common are worked out in fractions, and the left side is told by a point beside a wall
 that is held by the room (a ray from it crosses walls an odd number of times).
@@ -9,6 +9,11 @@ from fractions import Fraction
 
 def points_of(n, xy):
     return [(Fraction(xy[2 * i]), Fraction(xy[2 * i + 1])) for i in range(n)]
+
+
+def walls_of(points):
+    n = len(points)
+    return [(points[i], points[(i + 1) % n]) for i in range(n)]
 
 
 def minus(p, q):
@@ -91,7 +96,7 @@ def reasons(n, xy):
     points = points_of(n, xy)
     if has_line(points):
         return ["line"]
-    walls = [(points[i], points[(i + 1) % n]) for i in range(n)]
+    walls = walls_of(points)
     found = []
     for i in range(n):
         for j in range(i):
@@ -108,3 +113,12 @@ def reasons(n, xy):
 
 def is_room(n, xy):
     return reasons(n, xy) == []
+
+
+def is_on(wall, p):
+    return cross(minus(wall[1], wall[0]), minus(p, wall[0])) == 0 and 0 <= where_on(wall, p) <= 1
+
+
+def holds(n, x, y, xy):
+    walls = walls_of(points_of(n, xy))
+    return any(is_on(wall, (x, y)) for wall in walls) or crossings(walls, x, y) % 2 == 1

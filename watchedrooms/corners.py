@@ -5,13 +5,14 @@ MOST_CORNERS = 24
 LEAST_NUMBER = -10000
 GREATEST_NUMBER = 10000
 NOT_SO = -2
+NO_ROOM = -3
 
 
-def is_so(n, xy):
-    """Whether n and each number of xy are in their ranges."""
+def is_so(n, numbers):
+    """Whether n and each of the numbers, the corners' and a point's, are in their ranges."""
     if n < FEWEST_CORNERS or n > MOST_CORNERS:
         return False
-    for number in xy:
+    for number in numbers:
         if number < LEAST_NUMBER or number > GREATEST_NUMBER:
             return False
     return True
@@ -85,10 +86,54 @@ def is_room(points):
     return twice_area(points) > 0
 
 
+def is_on_way(a, b, p):
+    """Whether p is a point of the straight way from a to b."""
+    return turn(a, b, p) == 0 and spans_meet(a[0], b[0], p[0], p[0]) and spans_meet(a[1], b[1], p[1], p[1])
+
+
+def is_crossed_by_ray(a, b, p):
+    """Whether the ray from p in the direction of greater x crosses the wall from a to b."""
+    if a[1] <= p[1] and b[1] > p[1]:
+        # Seen along a wall that goes up, greater x is on the right: the wall is there if p is on the left.
+        return turn(a, b, p) > 0
+    if b[1] <= p[1] and a[1] > p[1]:
+        return turn(b, a, p) > 0
+    return False
+
+
+def holds(points, p):
+    """Whether the room with these corners holds p."""
+    n = len(points)
+    odd = False
+    for i in range(n):
+        a = points[i]
+        b = points[(i + 1) % n]
+        if is_on_way(a, b, p):
+            return True
+        if is_crossed_by_ray(a, b, p):
+            odd = not odd
+    return odd
+
+
+def one_or_zero(truth):
+    """The answer [1] or [0]: what is given back holds whole numbers, never True or False."""
+    if truth:
+        return [1]
+    return [0]
+
+
 def ga_room(n, xy):
     """[1] if the corners make a room, [0] if they don't, [-2] if n or a number isn't so."""
     if not is_so(n, xy):
         return [NOT_SO]
-    if is_room(corner_points(n, xy)):
-        return [1]
-    return [0]
+    return one_or_zero(is_room(corner_points(n, xy)))
+
+
+def ga_holds(n, x, y, xy):
+    """[1] if the room holds the point at x and y, else [0]; [-2] if n or a number isn't so, [-3] if it's no room."""
+    if not is_so(n, xy + [x, y]):
+        return [NOT_SO]
+    points = corner_points(n, xy)
+    if not is_room(points):
+        return [NO_ROOM]
+    return one_or_zero(holds(points, (x, y)))
