@@ -1,7 +1,8 @@
-"""What a room is and holds, worked out another way than the package does it, to hold its answers against.
+"""What a room is, holds and sees, worked out another way than the package does it, to hold its answers against.
 
 Points in common are worked out in fractions, and the left side is told by a point beside a wall
-that is held by the room (a ray from it crosses walls an odd number of times).
+that is held by the room (a ray from it crosses walls an odd number of times). A way is cut wherever
+it meets a wall, and is asked for at each cut and in the middle between each two.
 """
 
 from fractions import Fraction
@@ -119,6 +120,31 @@ def is_on(wall, p):
     return cross(minus(wall[1], wall[0]), minus(p, wall[0])) == 0 and 0 <= where_on(wall, p) <= 1
 
 
+def is_held(walls, p):
+    return any(is_on(wall, p) for wall in walls) or crossings(walls, *p) % 2 == 1
+
+
 def holds(n, x, y, xy):
-    walls = walls_of(points_of(n, xy))
-    return any(is_on(wall, (x, y)) for wall in walls) or crossings(walls, x, y) % 2 == 1
+    return is_held(walls_of(points_of(n, xy)), (x, y))
+
+
+def cuts_of(way, walls):
+    """How far along the way its ends lie, and each place where it comes to a wall or leaves one."""
+    cuts = [Fraction(0), Fraction(1)]
+    for wall in walls:
+        p = in_common(way, wall)
+        for q in wall if p == "many" else [p] if p else []:
+            if 0 <= where_on(way, q) <= 1:
+                cuts.append(where_on(way, q))
+    return sorted(set(cuts))
+
+
+def sees(n, i, x, y, xy):
+    points = points_of(n, xy)
+    walls = walls_of(points)
+    way = (points[i], (Fraction(x), Fraction(y)))
+    if way[0] == way[1]:
+        return is_held(walls, way[0])
+    cuts = cuts_of(way, walls)
+    middles = [(cuts[k] + cuts[k + 1]) / 2 for k in range(len(cuts) - 1)]
+    return all(is_held(walls, along(way, t)) for t in cuts + middles)

@@ -79,12 +79,14 @@ def ways_round(points):
         yield move, [move(x, y) for x, y in reversed(points)]
 
 
-def grown(source, n, size):
-    """A room of at most n corners at whole places from 0 to size - 1: many of them are on one line with others."""
-    points = [(0, 0), (size - 1, 0), (source.randrange(size), size - 1)]
+def grown(source, n, least, greatest):
+    """A room of at most n corners, with numbers from least to greatest: where these are few, many corners are on one
+    line with others."""
+    points = [(least, least), (greatest, least), (source.randint(least, greatest), greatest)]
     for attempt in range(8 * n):
         at = source.randrange(len(points))
-        more = points[:at] + [(source.randrange(size), source.randrange(size))] + points[at:]
+        place = (source.randint(least, greatest), source.randint(least, greatest))
+        more = points[:at] + [place] + points[at:]
         if len(more) <= n and ga_room(len(more), flat(more)) == [1]:
             points = more
     return points

@@ -223,13 +223,13 @@ class AgainstReference(HoldsCase):
         source = random.Random(3)
         places = [(x, y) for x in range(-1, 8) for y in range(-1, 8)]
         for turn in range(60):
-            self.check_all(grown(source, source.randint(3, 24), 7), places)
+            self.check_all(grown(source, source.randint(3, 24), 0, 6), places)
 
     def test_many_large_rooms(self):
         source = random.Random(4)
         found = 0
         for turn in range(40):
-            points = [(x - 10000, y - 10000) for x, y in grown(source, source.randint(3, 24), 20001)]
+            points = grown(source, source.randint(3, 24), -10000, 10000)
             places = [(source.randint(-10000, 10000), source.randint(-10000, 10000)) for k in range(30)]
             places += [(source.randint(-10000, 10000), y) for x, y in points]
             found += self.check_all(points, places)

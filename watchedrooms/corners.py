@@ -115,6 +115,38 @@ def holds(points, p):
     return odd
 
 
+def opens_towards(before, c, after, p):
+    """Whether the way from the corner c, between its neighbours, to p begins within the room or along a wall."""
+    left_of_first = turn(before, c, p) >= 0
+    left_of_second = turn(c, after, p) >= 0
+    if turn(before, c, after) > 0:
+        return left_of_first and left_of_second
+    # At a corner that turns right, all is open but what lies on the right of both walls.
+    return left_of_first or left_of_second
+
+
+def is_cut_through(a, b, c, d):
+    """Whether the ways from a to b and from c to d go through each other, not only touch."""
+    return turn(a, b, c) * turn(a, b, d) < 0 and turn(c, d, a) * turn(c, d, b) < 0
+
+
+def sees(points, i, p):
+    """Whether corner i of the room with these corners sees p."""
+    # A way that begins in a corner leaves the room only through a wall, or at a corner that it goes through and
+    # that isn't open towards its end. So the points of the way whose numbers aren't whole needn't be asked for.
+    n = len(points)
+    eye = points[i]
+    for k in range(n):
+        corner = points[k]
+        after = points[(k + 1) % n]
+        if is_cut_through(eye, p, corner, after):
+            return False
+        goes_on = corner != p and is_on_way(eye, p, corner)
+        if goes_on and not opens_towards(points[(k - 1) % n], corner, after, p):
+            return False
+    return True
+
+
 def one_or_zero(truth):
     """The answer [1] or [0]: what is given back holds whole numbers, never True or False."""
     if truth:
@@ -137,3 +169,13 @@ def ga_holds(n, x, y, xy):
     if not is_room(points):
         return [NO_ROOM]
     return one_or_zero(holds(points, (x, y)))
+
+
+def ga_sees(n, i, x, y, xy):
+    """[1] if corner i sees the point at x and y, else [0]; [-2] if n, i or a number isn't so, [-3] if it's no room."""
+    if not is_so(n, xy + [x, y]) or i < 0 or i >= n:
+        return [NOT_SO]
+    points = corner_points(n, xy)
+    if not is_room(points):
+        return [NO_ROOM]
+    return one_or_zero(sees(points, i, (x, y)))
