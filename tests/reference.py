@@ -1,8 +1,8 @@
-"""What a room is, holds and sees, worked out another way than the package does it, to hold its answers against.
+"""What a room is, holds and sees, and how it's cut, worked out another way than the package does it, to hold its answers against.
 
 Points in common are worked out in fractions, and the left side is told by a point beside a wall
 that is held by the room (a ray from it crosses walls an odd number of times). A way is cut wherever
-it meets a wall, and is asked for at each cut and in the middle between each two.
+it meets a wall, and is asked for at each cut and in the middle between each two. A point is in a triangle by its shares of the sides.
 """
 
 from fractions import Fraction
@@ -148,3 +148,33 @@ def sees(n, i, x, y, xy):
     cuts = cuts_of(way, walls)
     middles = [(cuts[k] + cuts[k + 1]) / 2 for k in range(len(cuts) - 1)]
     return all(is_held(walls, along(way, t)) for t in cuts + middles)
+
+
+def is_in(triangle, p):
+    """Whether p, as one corner and shares of both sides from it, stays within the triangle or on its sides."""
+    a, b, c = triangle
+    whole = cross(minus(b, a), minus(c, a))
+    first, second = cross(minus(p, a), minus(c, a)) / whole, cross(minus(b, a), minus(p, a)) / whole
+    return first >= 0 and second >= 0 and first + second <= 1
+
+
+def is_ear(points, left, i):
+    k = left.index(i)
+    around = [left[k - 1], i, left[(k + 1) % len(left)]]
+    triangle = [points[j] for j in around]
+    if cross(minus(triangle[1], triangle[0]), minus(triangle[2], triangle[1])) <= 0:
+        return False
+    return not any(is_in(triangle, points[j]) for j in left if j not in around)
+
+
+def cut(n, xy):
+    """The triangles, each as a list of three corners."""
+    points = points_of(n, xy)
+    left = list(range(n))
+    triangles = []
+    while len(left) > 2:
+        ear = min(i for i in left if is_ear(points, left, i))
+        k = left.index(ear)
+        triangles.append([left[k - 1], ear, left[(k + 1) % len(left)]])
+        left.remove(ear)
+    return triangles

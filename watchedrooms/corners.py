@@ -147,6 +147,51 @@ def sees(points, i, p):
     return True
 
 
+def with_neighbours(left, k):
+    """Of the corners left, in their order round: the one before the one at place k, itself, the one after it."""
+    m = len(left)
+    return (left[(k - 1) % m], left[k], left[(k + 1) % m])
+
+
+def is_in_triangle(a, b, c, p):
+    """Whether p is in the triangle a, b, c, which turns left, or on its sides."""
+    return turn(a, b, p) >= 0 and turn(b, c, p) >= 0 and turn(c, a, p) >= 0
+
+
+def is_ear(points, left, triangle):
+    """Whether the middle corner of the triangle, which it makes with its neighbours, is an ear of the corners left."""
+    a = points[triangle[0]]
+    b = points[triangle[1]]
+    c = points[triangle[2]]
+    if turn(a, b, c) <= 0:
+        return False
+    for i in left:
+        if i not in triangle and is_in_triangle(a, b, c, points[i]):
+            return False
+    return True
+
+
+def least_ear(points, left):
+    """The place of the least ear among the corners left."""
+    # The corners left stand from the least on, so the first ear is the least. What ears leave of a room's corners
+    # always has an ear, so one is found.
+    k = 0
+    while not is_ear(points, left, with_neighbours(left, k)):
+        k = k + 1
+    return k
+
+
+def cut(points):
+    """The triangles that the room's ears make, one after another: each the corner before the ear, it, the one after."""
+    left = list(range(len(points)))
+    triangles = []
+    while len(left) > 2:
+        k = least_ear(points, left)
+        triangles.append(with_neighbours(left, k))
+        left.pop(k)
+    return triangles
+
+
 def one_or_zero(truth):
     """The answer [1] or [0]: what is given back holds whole numbers, never True or False."""
     if truth:
@@ -179,3 +224,18 @@ def ga_sees(n, i, x, y, xy):
     if not is_room(points):
         return [NO_ROOM]
     return one_or_zero(sees(points, i, (x, y)))
+
+
+def ga_cut(n, xy):
+    """How many triangles the room is cut into, and three corners of each; [-2] if n or a number isn't so, [-3] if it's
+    no room."""
+    if not is_so(n, xy):
+        return [NOT_SO]
+    points = corner_points(n, xy)
+    if not is_room(points):
+        return [NO_ROOM]
+    triangles = cut(points)
+    answer = [len(triangles)]
+    for triangle in triangles:
+        answer.extend(triangle)
+    return answer
