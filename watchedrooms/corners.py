@@ -192,6 +192,31 @@ def cut(points):
     return triangles
 
 
+def colours_of(n, triangles):
+    """A colour for each corner so that none of the triangles, in the order of their cutting, has one twice."""
+    colours = [0] * n
+    # The neighbours of the last ear begin, with 0 and 1. From there backwards, each ear's neighbours have their
+    # colours already, and the ear takes the third.
+    colours[triangles[n - 3][2]] = 1
+    for triangle in reversed(triangles):
+        colours[triangle[1]] = 3 - colours[triangle[0]] - colours[triangle[2]]
+    return colours
+
+
+def renamed(colours):
+    """The same colours called otherwise: corner 0 has 0, corner 1 has 1."""
+    # Corners 0 and 1 are two of one triangle, as each wall is a side of one: so their colours differ.
+    names = [2, 2, 2]
+    names[colours[0]] = 0
+    names[colours[1]] = 1
+    return [names[colour] for colour in colours]
+
+
+def three(points):
+    """The colour of each corner of the room with these corners."""
+    return renamed(colours_of(len(points), cut(points)))
+
+
 def one_or_zero(truth):
     """The answer [1] or [0]: what is given back holds whole numbers, never True or False."""
     if truth:
@@ -239,3 +264,13 @@ def ga_cut(n, xy):
     for triangle in triangles:
         answer.extend(triangle)
     return answer
+
+
+def ga_three(n, xy):
+    """0 and a colour for each corner; [-2] if n or a number isn't so, [-3] if it's no room."""
+    if not is_so(n, xy):
+        return [NOT_SO]
+    points = corner_points(n, xy)
+    if not is_room(points):
+        return [NO_ROOM]
+    return [0] + three(points)
