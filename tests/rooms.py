@@ -57,6 +57,14 @@ def saw():
     return [(0, -5), (120, -5)] + [(115 - 5 * k, 40 if k % 2 else 0) for k in range(22)]
 
 
+def prongs(k):
+    """3 k corners: a low hall under k narrow prongs, no two of whose tips are seen from one place."""
+    points = [(0, 0), (100 * k, 0), (100 * k - 5, 900)]
+    for j in range(k - 1, 0, -1):
+        points += [(100 * j, 10), (100 * j - 10, 10), (100 * j - 15, 900)]
+    return points
+
+
 def flat(points):
     return [number for point in points for number in point]
 

@@ -1,13 +1,10 @@
 """ga_room (point 1): ordinary rooms, what is no room, the edges, and what is handed in and given back."""
 
-import ast
-import pathlib
 import unittest
 
 import reference
 from calls import CallCase, HandedInAndGivenBack, RefusesNumbers
 from rooms import ANGLE, DART, SPIRAL, SQUARE, TRIANGLE, TROUGH, WIDEST, bowl, comb, flat, saw, star, turned
-from watchedrooms import corners
 from watchedrooms.corners import ga_room
 
 
@@ -164,10 +161,6 @@ class WhatIsHandedInAndGivenBack(HandedInAndGivenBack, RoomCase):
 
     def function(self):
         return ga_room
-
-    def test_imports_nothing(self):
-        tree = ast.parse(pathlib.Path(corners.__file__).read_text())
-        self.assertEqual([node for node in ast.walk(tree) if isinstance(node, (ast.Import, ast.ImportFrom))], [])
 
 
 if __name__ == "__main__":

@@ -115,13 +115,13 @@ def holds(points, p):
     return odd
 
 
-def opens_towards(before, c, after, p):
+def begins_in_room(before, c, after, p):
     """Whether the way from the corner c, between its neighbours, to p begins within the room or along a wall."""
     left_of_first = turn(before, c, p) >= 0
     left_of_second = turn(c, after, p) >= 0
     if turn(before, c, after) > 0:
         return left_of_first and left_of_second
-    # At a corner that turns right, all is open but what lies on the right of both walls.
+    # At a corner that turns right, only what lies on the right of both walls is outside.
     return left_of_first or left_of_second
 
 
@@ -132,8 +132,8 @@ def is_cut_through(a, b, c, d):
 
 def sees(points, i, p):
     """Whether corner i of the room with these corners sees p."""
-    # A way that begins in a corner leaves the room only through a wall, or at a corner that it goes through and
-    # that isn't open towards its end. So the points of the way whose numbers aren't whole needn't be asked for.
+    # A way that begins in a corner leaves the room only by going through a wall, or where it goes on from a corner.
+    # If it never does, the room holds all of it, its end and the points whose numbers aren't whole among them.
     n = len(points)
     eye = points[i]
     for k in range(n):
@@ -142,7 +142,7 @@ def sees(points, i, p):
         if is_cut_through(eye, p, corner, after):
             return False
         goes_on = corner != p and is_on_way(eye, p, corner)
-        if goes_on and not opens_towards(points[(k - 1) % n], corner, after, p):
+        if goes_on and not begins_in_room(points[(k - 1) % n], corner, after, p):
             return False
     return True
 
@@ -217,6 +217,35 @@ def three(points):
     return renamed(colours_of(len(points), cut(points)))
 
 
+def least_of_the_fewest(colours):
+    """The least of the colours that the fewest corners have."""
+    best = 0
+    for colour in range(1, 3):
+        if colours.count(colour) < colours.count(best):
+            best = colour
+    return best
+
+
+def mask_of(colours, colour):
+    """The mask of the corners that have the colour: corner i adds 2 to the i."""
+    mask = 0
+    bit = 1
+    for other in colours:
+        if other == colour:
+            mask = mask + bit
+        bit = bit * 2
+    return mask
+
+
+def refusal(n, xy, place):
+    """-2 if n, a number of xy or one of the place isn't so, else -3 if it's no room, else 0: nothing is refused."""
+    if not is_so(n, xy + place):
+        return NOT_SO
+    if not is_room(corner_points(n, xy)):
+        return NO_ROOM
+    return 0
+
+
 def one_or_zero(truth):
     """The answer [1] or [0]: what is given back holds whole numbers, never True or False."""
     if truth:
@@ -233,33 +262,28 @@ def ga_room(n, xy):
 
 def ga_holds(n, x, y, xy):
     """[1] if the room holds the point at x and y, else [0]; [-2] if n or a number isn't so, [-3] if it's no room."""
-    if not is_so(n, xy + [x, y]):
-        return [NOT_SO]
-    points = corner_points(n, xy)
-    if not is_room(points):
-        return [NO_ROOM]
-    return one_or_zero(holds(points, (x, y)))
+    refused = refusal(n, xy, [x, y])
+    if refused < 0:
+        return [refused]
+    return one_or_zero(holds(corner_points(n, xy), (x, y)))
 
 
 def ga_sees(n, i, x, y, xy):
     """[1] if corner i sees the point at x and y, else [0]; [-2] if n, i or a number isn't so, [-3] if it's no room."""
-    if not is_so(n, xy + [x, y]) or i < 0 or i >= n:
+    if i < 0 or i >= n:
         return [NOT_SO]
-    points = corner_points(n, xy)
-    if not is_room(points):
-        return [NO_ROOM]
-    return one_or_zero(sees(points, i, (x, y)))
+    refused = refusal(n, xy, [x, y])
+    if refused < 0:
+        return [refused]
+    return one_or_zero(sees(corner_points(n, xy), i, (x, y)))
 
 
 def ga_cut(n, xy):
-    """How many triangles the room is cut into, and three corners of each; [-2] if n or a number isn't so, [-3] if it's
-    no room."""
-    if not is_so(n, xy):
-        return [NOT_SO]
-    points = corner_points(n, xy)
-    if not is_room(points):
-        return [NO_ROOM]
-    triangles = cut(points)
+    """How many triangles the room is cut into, then three corners of each; [-2] or [-3] as above."""
+    refused = refusal(n, xy, [])
+    if refused < 0:
+        return [refused]
+    triangles = cut(corner_points(n, xy))
     answer = [len(triangles)]
     for triangle in triangles:
         answer.extend(triangle)
@@ -267,10 +291,18 @@ def ga_cut(n, xy):
 
 
 def ga_three(n, xy):
-    """0 and a colour for each corner; [-2] if n or a number isn't so, [-3] if it's no room."""
-    if not is_so(n, xy):
-        return [NOT_SO]
-    points = corner_points(n, xy)
-    if not is_room(points):
-        return [NO_ROOM]
-    return [0] + three(points)
+    """0, then a colour for each corner; [-2] or [-3] as above."""
+    refused = refusal(n, xy, [])
+    if refused < 0:
+        return [refused]
+    return [0] + three(corner_points(n, xy))
+
+
+def ga_watch(n, xy):
+    """How many corners have the least of the colours that the fewest have, then their mask; [-2] or [-3] as above."""
+    refused = refusal(n, xy, [])
+    if refused < 0:
+        return [refused]
+    colours = three(corner_points(n, xy))
+    watching = least_of_the_fewest(colours)
+    return [colours.count(watching), mask_of(colours, watching)]
